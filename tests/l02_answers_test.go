@@ -104,14 +104,6 @@ func TestNearLeavesItsFractions(t *testing.T) {
 	}
 }
 
-// scribbled writes over a list and the room behind it.
-func scribbled[T any](list []T, with T) {
-	list = list[:cap(list)]
-	for i := range list {
-		list[i] = with
-	}
-}
-
 func TestNearAnswersAreNewMemory(t *testing.T) {
 	for _, a := range someRatios() {
 		terms, other := impl.Terms(a), impl.Terms(a)

@@ -108,32 +108,8 @@ func TestLinearAtEveryArgument(t *testing.T) {
 	}
 }
 
-// A roomy table has rows behind its rows, and numbers behind those of each row. Before and cuts are what the room and
-// the list of rows were at first.
-type roomy struct {
-	rows, cuts   [][]ratio
-	room, before [][]ratio
-}
-
-func withRoom(rows [][]ratio) roomy {
-	behind := []ratio{frac(7, 1), zero, frac(-1, 2), frac(math.MinInt64, math.MaxInt64), frac(2, 4), frac(9, 1), frac(0, 1)}
-	var r roomy
-	for _, row := range append(slices.Clone(rows), behind[:3], behind[3:], behind, nil) {
-		room := append(slices.Clone(row), behind...)
-		r.room = append(r.room, room)
-		r.cuts = append(r.cuts, room[:len(row)])
-	}
-	r.before = copied(r.room)
-	r.rows = slices.Clone(r.cuts)[:len(rows)]
-	return r
-}
-
-func (r roomy) stayed() bool {
-	same := sameRows(r.room, r.before)
-	for i, row := range r.rows[:len(r.cuts)] {
-		same = same && len(row) == len(r.cuts[i]) && &row[:1][0] == &r.room[i][0]
-	}
-	return same
+func withRoom(rows [][]ratio) roomy[ratio] {
+	return roomyRows(rows, []ratio{frac(7, 1), zero, frac(-1, 2), frac(math.MinInt64, math.MaxInt64), frac(2, 4), frac(9, 1), frac(0, 1)})
 }
 
 // linearArguments are tables whose answers are told, and such as are refused at the start or on the way.
@@ -175,43 +151,12 @@ func TestLinearLeavesItsArguments(t *testing.T) {
 	}
 }
 
-// apart writes over each row, and the room behind it, with a number of its own: where two share memory, one of them
-// loses its number. The rows are spent then.
-func apart(t *testing.T, name string, rows ...[]ratio) {
-	t.Helper()
-	for i, row := range rows {
-		scribbled(row, frac(int64(i), 7777))
-	}
-	for i, row := range rows {
-		for _, r := range row[:cap(row)] {
-			if r != frac(int64(i), 7777) {
-				t.Fatal(name, "shares memory", i, r.N)
-			}
-		}
-	}
-}
-
-// ownList fails where a list of rows that was answered stands in the memory of one that was handed in. It is spent then.
-func ownList(t *testing.T, name string, answer [][]ratio, arguments ...[][]ratio) {
-	t.Helper()
-	scribbled(answer, whole(-7777))
-	for _, rows := range arguments {
-		for _, row := range rows[:cap(rows)] {
-			if len(row) == 1 && row[0] == frac(-7777, 1) {
-				t.Fatal(name, "answers in its argument's list")
-			}
-		}
-	}
-}
+func ratioMark(i int) ratio { return frac(int64(i), 7777) }
 
 func TestLinearAnswersAreNewMemory(t *testing.T) {
 	check := func(name string, answer func() [][]ratio, arguments ...[][]ratio) {
 		t.Helper()
-		one, two := answer(), answer()
-		all := slices.Concat(append(arguments, one, two)...)
-		apart(t, name, all...)
-		ownList(t, name, one, append(arguments, two)...)
-		ownList(t, name, two, arguments...)
+		newMemory(t, name, ratioMark, answer, arguments...)
 	}
 	for _, rows := range linearArguments() {
 		a := withRoom(rows).rows
@@ -246,7 +191,7 @@ func TestLinearOfSharedRows(t *testing.T) {
 	if !sameRows(rows, before) {
 		t.Fatal("the rows have changed", rows)
 	}
-	apart(t, "Echelon", append(e, row)...)
+	apart(t, "Echelon", ratioMark, append(e, row)...)
 	room := whole(1, 2, 0, 1, 5)
 	cut := table(room[:2], room[2:4])
 	x, is := impl.Solved(cut, room[3:])

@@ -17,18 +17,6 @@ func whole(numbers ...int64) []ratio {
 
 func table(rows ...[]ratio) [][]ratio { return rows }
 
-func copied(rows [][]ratio) [][]ratio {
-	list := slices.Clone(rows)
-	for i := range list {
-		list[i] = slices.Clone(list[i])
-	}
-	return list
-}
-
-func sameRows(a [][]ratio, b [][]ratio) bool {
-	return slices.EqualFunc(a, b, func(x, y []ratio) bool { return slices.Equal(x, y) })
-}
-
 // reckoning goes on without limits, and keeps in mind whether a fraction on the way was too great.
 type reckoning struct{ tooGreat bool }
 
