@@ -29,9 +29,10 @@ func isDim(d []int64) bool {
 	return len(d) == 5 && inside == 5
 }
 
-// exactAlike goes on in numbers of any length; it is nothing where there is anything on the way that is no dimension.
+// exactAlike goes on in numbers of any length; it is nothing of none and of more than six, and where there is anything
+// on the way that is no dimension.
 func exactAlike(list [][]int64, powers []int64) []int64 {
-	if len(list) != len(powers) {
+	if len(list) == 0 || len(list) > 6 || len(list) != len(powers) {
 		return nil
 	}
 	nine := big.NewInt(9)

@@ -275,8 +275,8 @@ func TestAlikeTells(t *testing.T) {
 		{dims(speed, time), dim(1, 1), length}, {dims(speed), dim(2), dim(2, 0, -2, 0, 0)}, {dims(length, time, dim(1, 0, -2, 0, 0)), dim(-1, 2, 1), nought()},
 		{dims(dim(0, 1, 0, 0, 0), speed), dim(1, 2), dim(2, 1, -2, 0, 0)}, {dims(dim(1, 2, 3, 4, 4)), dim(-2), dim(-2, -4, -6, -8, -8)},
 		{dims(speed), dim(1), speed}, {dims(speed), dim(0), nought()}, {dims(five, time), dim(0, 9), dim(0, 0, 9, 0, 0)}, {dims(five, warm), dim(0, 0), nought()},
-		// No dimension at all: the product of none is without dimension.
-		{nil, nil, nought()}, {dims(), dim(), nought()}, {dims(), nil, nought()},
+		// No dimension at all.
+		{nil, nil, nil}, {dims(), dim(), nil}, {dims(), nil, nil}, {nil, dim(), nil},
 		// One power more or less than dimensions.
 		{nil, dim(1), nil}, {nil, dim(0), nil}, {dims(speed), nil, nil}, {dims(speed), dim(1, 1), nil}, {dims(speed), dim(1, 0), nil}, {dims(speed, time), dim(1), nil},
 		{dims(speed, nought()), dim(1), nil}, {dims(speed, time), dim(1, 1, 1), nil}, {dims(speed, time), dim(1, 1, 0), nil},
@@ -290,15 +290,31 @@ func TestAlikeTells(t *testing.T) {
 		// What wraps round is none.
 		{dims(dim(2, 0, 0, 0, 0)), dim(math.MinInt64), nil}, {dims(dim(4, 0, 0, 0, 0), length), dim(twoTo62, 1), nil}, {dims(length, length), dim(math.MaxInt64, -math.MaxInt64), nil},
 		{dims(nought(), speed), dim(math.MinInt64, 1), speed}, {dims(speed, nought()), dim(-1, math.MaxInt64), dim(-1, 0, 1, 0, 0)},
-		// More than Groups takes.
-		{times(7, length), dim(1, 1, 1, 1, 1, 1, 1), dim(7, 0, 0, 0, 0)}, {times(9, time), slices.Repeat([]int64{-1}, 9), dim(0, 0, -9, 0, 0)}, {times(10, time), slices.Repeat([]int64{-1}, 10), nil},
-		{times(100000, speed), slices.Repeat([]int64{1, -1}, 50000), nought()}, {times(100000, nought()), make([]int64, 100000), nought()},
+		// Six are as many as it takes; seven are refused, whatever their product.
+		{times(6, length), dim(1, 1, 1, 1, 1, 1), dim(6, 0, 0, 0, 0)}, {times(7, length), dim(1, 1, 1, 1, 1, 1, 1), nil}, {times(6, warm), dim(1, -1, 1, -1, 1, -1), nought()},
+		{times(6, length), dim(2, 2, 2, 1, 1, 1), dim(9, 0, 0, 0, 0)}, {times(6, length), dim(2, 2, 2, 2, 1, 1), nil}, {times(7, speed), make([]int64, 7), nil}, {times(7, nought()), make([]int64, 7), nil},
+		{times(7, length), dim(1, 1, 1, 1, 1, 1), nil}, {times(6, length), dim(1, 1, 1, 1, 1, 1, 1), nil}, {times(9, time), slices.Repeat([]int64{-1}, 9), nil}, {times(10, time), slices.Repeat([]int64{-1}, 10), nil},
+		{times(100000, speed), slices.Repeat([]int64{1, -1}, 50000), nil}, {times(100000, nought()), make([]int64, 100000), nil},
 		// Something that is no dimension, though nothing is made of it.
 		{dims(dim(10, 0, 0, 0, 0)), dim(0), nil}, {dims(speed, dim(0, 0, 0, 0)), dim(1, 0), nil}, {dims(nil, speed), dim(0, 1), nil}, {dims(speed, nil), dim(1, 0), nil},
 		{dims(dim(10, 0, 0, 0, 0), dim(-10, 0, 0, 0, 0)), dim(1, 1), nil}, {dims(make([]int64, 6)), dim(1), nil},
 	} {
 		if got := impl.Alike(c.list, c.powers); !slices.Equal(got, c.want) {
 			t.Errorf("Alike(%v, %v): %v, not %v", c.list, c.powers, got, c.want)
+		}
+	}
+}
+
+// Of 1 to 6 dimensions there is a product, of none and of seven there is not: the powers 0, and 1 and -1 by turns, keep
+// every product a dimension, so that nothing but the number of them can be refused.
+func TestAlikeOfEachSize(t *testing.T) {
+	for n := range 9 {
+		for _, d := range everyPower() {
+			for _, powers := range dims(make([]int64, n), slices.Repeat([]int64{1, -1}, 4)[:n]) {
+				if is := checkAlike(t, times(n, d), powers); is != (n > 0 && n < 7) {
+					t.Fatal(n, d, powers, is)
+				}
+			}
 		}
 	}
 }
