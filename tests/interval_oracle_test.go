@@ -114,35 +114,18 @@ func checkSpan(t *testing.T, r interval) bool {
 	return isSpan(r)
 }
 
-// A pairing makes one Range of two.
-type pairing struct {
-	name  string
-	by    func(interval, interval) (interval, bool)
-	exact func(interval, interval) (interval, bool)
-}
-
-func pairings() []pairing {
-	return []pairing{
+func pairings() []pairing[interval] {
+	return []pairing[interval]{
 		{"RangeAdd", impl.RangeAdd, exactRangeAdd},
 		{"RangeMul", impl.RangeMul, exactRangeMul},
 		{"Meet", impl.Meet, exactMeet},
 	}
 }
 
-func (p pairing) check(t *testing.T, a interval, b interval) bool {
-	t.Helper()
-	want, wantIs := p.exact(a, b)
-	if got, is := p.by(a, b); is != wantIs || got != want {
-		t.Fatalf("%s(%v, %v): %v %v, not %v %v", p.name, a, b, got, is, want, wantIs)
-	}
-	return wantIs
-}
-
 func checkPairs(t *testing.T, a interval, b interval) {
 	t.Helper()
 	for _, p := range pairings() {
-		p.check(t, a, b)
-		p.check(t, b, a)
+		p.checkBothWays(t, a, b)
 	}
 }
 

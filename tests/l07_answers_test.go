@@ -78,7 +78,7 @@ func TestRangesRefuseWhatIsNone(t *testing.T) {
 		}
 		for _, other := range []interval{wrong, noInterval, wholes(0, 0), wholes(1, 1), wholes(-1, 2), wholes(3, 4), wholes(-maxPart, maxPart), span(wrong.High, wrong.Low)} {
 			for _, p := range pairings() {
-				refusesBothWays(t, p, wrong, other)
+				p.refusesBothWays(t, wrong, other)
 			}
 		}
 	}
@@ -115,7 +115,7 @@ func TestRangesLeaveTheirArguments(t *testing.T) {
 // The same arguments have the same answers, whatever was asked or written over in between: nothing is kept.
 func TestRangesAnswerAlikeAgain(t *testing.T) {
 	list := someSpans()
-	tell := func(i int) []any {
+	alikeAgain(t, len(list), func(i int) []any {
 		a, b := list[i], list[(11*i+5)%len(list)]
 		width, is := impl.Width(a)
 		all := []any{impl.RangeOk(a), impl.Within(a, b.Low), impl.Within(a, a.High), width, is}
@@ -127,14 +127,5 @@ func TestRangesAnswerAlikeAgain(t *testing.T) {
 			}
 		}
 		return all
-	}
-	var told [][]any
-	for i := range list {
-		told = append(told, tell(i))
-	}
-	for i := len(list) - 1; i >= 0; i-- {
-		if !slices.Equal(tell(i), told[i]) {
-			t.Fatalf("%v: %v, not %v", list[i], tell(i), told[i])
-		}
-	}
+	})
 }

@@ -44,28 +44,7 @@ func TestRangeAddTells(t *testing.T) {
 		// Low of one and High of the other have no sum that is a fraction; no end is made of them.
 		{span(frac(1, maxPart), frac(1, 1)), span(frac(0, 1), frac(1, 3)), span(frac(1, maxPart), frac(4, 3))}, {span(frac(-1, 1), frac(1, maxPart)), span(frac(-1, 3), frac(0, 1)), span(frac(-4, 3), frac(1, maxPart))},
 	} {
-		tellsBothWays(t, pairings()[0], c)
-	}
-}
-
-// tellsBothWays holds the third Range against what is made of the first two, in either order.
-func tellsBothWays(t *testing.T, p pairing, c [3]interval) {
-	t.Helper()
-	for _, pair := range [][2]interval{{c[0], c[1]}, {c[1], c[0]}} {
-		if got, is := p.by(pair[0], pair[1]); !is || got != c[2] {
-			t.Errorf("%s(%v, %v): %v %v, not %v", p.name, pair[0], pair[1], got, is, c[2])
-		}
-		p.check(t, pair[0], pair[1])
-	}
-}
-
-func refusesBothWays(t *testing.T, p pairing, a interval, b interval) {
-	t.Helper()
-	for _, pair := range [][2]interval{{a, b}, {b, a}} {
-		if got, is := p.by(pair[0], pair[1]); is || got != noInterval {
-			t.Errorf("%s(%v, %v): %v %v", p.name, pair[0], pair[1], got, is)
-		}
-		p.check(t, pair[0], pair[1])
+		pairings()[0].tellsBothWays(t, c)
 	}
 }
 
@@ -77,7 +56,7 @@ func TestRangeAddRefuses(t *testing.T) {
 		// By its D: at Low alone, at High alone, at both.
 		{span(frac(1, maxPart), frac(1, 1)), span(frac(1, 3), frac(1, 1))}, {span(frac(-1, 1), frac(1, maxPart)), span(frac(-1, 1), frac(1, 3))}, {span(frac(1, maxPart), frac(1, maxPart)), span(frac(1, 3), frac(1, 3))}, {span(frac(1, 31623), frac(1, 1)), span(frac(1, 31624), frac(1, 1))},
 	} {
-		refusesBothWays(t, pairings()[0], c[0], c[1])
+		pairings()[0].refusesBothWays(t, c[0], c[1])
 	}
 }
 
@@ -97,7 +76,7 @@ func TestRangeMulTells(t *testing.T) {
 		{wholes(-1, 2), wholes(0, maxPart/2), wholes(-maxPart/2, maxPart)}, {wholes(-maxPart, maxPart), wholes(-1, 1), wholes(-maxPart, maxPart)}, {wholes(-2, -2), wholes(-maxPart/2, maxPart/2), wholes(-maxPart, maxPart)}, {wholes(31622, 31623), wholes(31621, 31622), wholes(31622*31621, 31623*31622)},
 		{span(frac(1, maxPart), frac(1, 1)), wholes(1, maxPart), span(frac(1, maxPart), frac(maxPart, 1))}, {span(frac(-1, 40000), frac(1, 25000)), span(frac(-1, 25000), frac(0, 1)), span(frac(-1, 625000000), frac(1, maxPart))},
 	} {
-		tellsBothWays(t, pairings()[1], c)
+		pairings()[1].tellsBothWays(t, c)
 	}
 }
 
@@ -112,7 +91,7 @@ func TestRangeMulRefuses(t *testing.T) {
 		// On the way alone: a product of two ends that would be no end.
 		{span(frac(1, maxPart), frac(1, 1)), span(frac(1, 1), frac(3, 2))}, {span(frac(1, maxPart), frac(1, 1)), span(frac(-1, 2), frac(1, 1))}, {span(frac(-1, 1), frac(-1, maxPart)), span(frac(-3, 2), frac(-1, 1))}, {span(frac(1, 99991), frac(99989, 1)), span(frac(1, 2), frac(100003, 99989))},
 	} {
-		refusesBothWays(t, pairings()[1], c[0], c[1])
+		pairings()[1].refusesBothWays(t, c[0], c[1])
 	}
 }
 
@@ -151,7 +130,7 @@ func TestMeetTells(t *testing.T) {
 		// In as little as can be; what has a sum or a width that is too great is met as well.
 		{span(frac(0, 1), frac(1, 999999999)), span(frac(1, maxPart), frac(1, 1)), span(frac(1, maxPart), frac(1, 999999999))}, {wholes(-maxPart, maxPart-1), wholes(1-maxPart, maxPart), wholes(1-maxPart, maxPart-1)},
 	} {
-		tellsBothWays(t, pairings()[2], c)
+		pairings()[2].tellsBothWays(t, c)
 	}
 }
 
@@ -161,7 +140,7 @@ func TestMeetRefuses(t *testing.T) {
 		// Apart by as little as can be.
 		{span(frac(0, 1), frac(1, maxPart)), span(frac(1, 999999999), frac(1, 1))}, {span(frac(-1, 1), frac(-1, maxPart)), wholes(0, 1)}, {span(frac(-1, 1), frac(499999999, 999999999)), span(frac(1, 2), frac(1, 1))},
 	} {
-		refusesBothWays(t, pairings()[2], c[0], c[1])
+		pairings()[2].refusesBothWays(t, c[0], c[1])
 	}
 }
 

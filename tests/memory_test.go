@@ -91,3 +91,17 @@ func newMemory[T comparable](t *testing.T, name string, mark func(int) T, answer
 	ownList(t, name, mark(-1), one, append(arguments, two)...)
 	ownList(t, name, mark(-1), two, arguments...)
 }
+
+// alikeAgain asks each of n questions, and then all of them once more the other way round.
+func alikeAgain(t *testing.T, n int, tell func(int) []any) {
+	t.Helper()
+	var told [][]any
+	for i := range n {
+		told = append(told, tell(i))
+	}
+	for i, before := range slices.Backward(told) {
+		if again := tell(i); !slices.Equal(again, before) {
+			t.Fatalf("%d: %v, not %v", i, again, before)
+		}
+	}
+}

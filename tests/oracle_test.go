@@ -3,6 +3,7 @@ package tests
 import (
 	"math"
 	"math/big"
+	"testing"
 
 	"loop.example/g00069/impl"
 )
@@ -95,4 +96,49 @@ func wrongRatios() []ratio {
 		{N: math.MaxInt64, D: 1}, {N: math.MinInt64, D: 1}, {N: 1, D: math.MaxInt64}, {N: 1, D: math.MinInt64},
 		{N: math.MinInt64, D: math.MinInt64}, {N: math.MinInt64, D: -1}, {N: 0, D: math.MinInt64},
 		{N: math.MinInt64, D: 0}, {N: math.MaxInt64, D: math.MinInt64}}
+}
+
+// A pairing makes one thing of two, by the program and by other means. Where that is refused, the zero value is told.
+type pairing[Thing comparable] struct {
+	name  string
+	by    func(Thing, Thing) (Thing, bool)
+	exact func(Thing, Thing) (Thing, bool)
+}
+
+func (p pairing[Thing]) check(t *testing.T, a Thing, b Thing) bool {
+	t.Helper()
+	want, wantIs := p.exact(a, b)
+	if got, is := p.by(a, b); is != wantIs || got != want {
+		t.Fatalf("%s(%v, %v): %v %v, not %v %v", p.name, a, b, got, is, want, wantIs)
+	}
+	return wantIs
+}
+
+func (p pairing[Thing]) checkBothWays(t *testing.T, a Thing, b Thing) {
+	t.Helper()
+	p.check(t, a, b)
+	p.check(t, b, a)
+}
+
+// tells holds the third against what is made of the first two; the zero value there stands for what is refused.
+func (p pairing[Thing]) tells(t *testing.T, c [3]Thing) {
+	t.Helper()
+	var none Thing
+	if got, is := p.by(c[0], c[1]); got != c[2] || is != (c[2] != none) {
+		t.Errorf("%s(%v, %v): %v %v, not %v", p.name, c[0], c[1], got, is, c[2])
+	}
+	p.checkBothWays(t, c[0], c[1])
+}
+
+// tellsBothWays is for what the order of both doesn't change.
+func (p pairing[Thing]) tellsBothWays(t *testing.T, c [3]Thing) {
+	t.Helper()
+	p.tells(t, c)
+	p.tells(t, [3]Thing{c[1], c[0], c[2]})
+}
+
+func (p pairing[Thing]) refusesBothWays(t *testing.T, a Thing, b Thing) {
+	t.Helper()
+	var none Thing
+	p.tellsBothWays(t, [3]Thing{a, b, none})
 }
